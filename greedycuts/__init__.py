@@ -1,0 +1,1 @@
+"""Greedycuts: cutting texts by the longest word, and how bad it can be."""

@@ -1,0 +1,148 @@
+"""Word lists for the tests, slow and plain ways to the same results, and checks of errors.
+
+Nothing here is taken from the package but the errors: the results that the
+tests compare with come from listing all cuts.
+"""
+
+from itertools import product
+
+from greedycuts.errors import BadValue, CutError
+
+DOC = (("a", 1), ("ab", 1), ("b", 1), ("bcd", 1), ("c", 1), ("d", 1))
+SMALL = (("a", 1), ("ab", 1), ("b", 2))
+ONE = (("z", 9),)
+AAA = (("a", 1), ("aa", 1), ("aaa", 1))
+ALL_AS = (("a", 1), ("aa", 9), ("aaa", 2), ("aaaa", 5))
+DEAR = (("a", 1), ("aa", 9))
+EIGHT = (("a", 3), ("ab", 4), ("abab", 9), ("b", 2), ("ba", 1), ("baa", 7), ("bb", 5), ("bbba", 6))
+LONG = (("a", 1), ("abb", 1), ("abba", 3), ("b", 2), ("bba", 2), ("bbab", 1))
+MIXED = (("a", 2), ("aab", 1), ("b", 1), ("ba", 2), ("bc", 3), ("c", 1), ("ca", 1), ("cab", 3))
+ENDS = (("a", 1), ("abc", 1), ("b", 1), ("c", 1), ("cd", 1), ("d", 1))
+LETTERS_ONLY = (("a", 1), ("b", 2), ("c", 3), ("d", 4), ("e", 5), ("f", 6), ("g", 7), ("h", 8))
+LISTS = (DOC, SMALL, ONE, AAA, ALL_AS, DEAR, EIGHT, LONG, MIXED, ENDS)
+
+# What is no word list, for reasons of all kinds.
+BAD_LISTS = (
+    None, True, False, 0, 1, "", "a", [], (), [("a", 1)], ("a", 1), (("a",),), (("a", 1, 1),),
+    (["a", 1],), ("a1",), (None,), (("a", 0),), (("a", 10),), (("a", -1),), (("a", True),),
+    (("a", False),), (("a", "1"),), (("a", None),), ((1, 1),), ((("a",), 1),), ((["a"], 1),),
+    ((None, 1),), ((True, 1),), (("", 1),), (("", 1), ("a", 1)), (("A", 1),), (("1", 1),), ((" ", 1),), (("\u00e9", 1),),
+    (("a", 1), ("a", 1)), (("a", 1), ("a", 2)), (("b", 1), ("a", 1)), (("aa", 1), ("a", 1)),
+    (("a", 1), ("ab", 1)), (("ab", 1), ("b", 1)), (("ab", 1),),
+    (("a", 1), ("aaaaa", 1)), (("a", 1), ("aa", 1), ("aaa", 1), ("aaaa", 1), ("aaaaa", 1)),
+    (("a", 1), ("b", 1), ("c", 1), ("d", 1), ("e", 1), ("f", 1), ("g", 1), ("h", 1), ("i", 1)),
+    (("a", 1), ("b", 1), None), (("a", 1), ["b", 1]),
+)
+# What is no text of a list whose letters are among a to h.
+BAD_TEXTS = (
+    None, True, 0, 1, [], (), ("a",), ["a"], "z", "A", "a ", " ", "a\n", "1", "aza", "\u00e4", "a" * 31, "a" * 1000,
+)
+# What is no integer from 0 to 30.
+BAD_NUMBERS = (None, True, False, -1, "0", "", (), (0,), [0], 31, 1000, 10 ** 40, -(10 ** 40))
+
+
+def texts_of(words, most):
+    """All texts of the word list with at most so many letters, in order by length."""
+    letters = [word for word, _ in words if len(word) == 1]
+    return ["".join(row) for many in range(most + 1) for row in product(letters, repeat=many)]
+
+
+def all_cuts(words, text):
+    """All cuts of the text, in their order, listed one after another."""
+    if text == "":
+        return [()]
+    starting = sorted((word for word, _ in words if text[:len(word)] == word), key=len)
+    return [(word, *cut) for word in starting for cut in all_cuts(words, text[len(word):])]
+
+
+def cost(words, row):
+    """The sum of the costs."""
+    return sum(dict(words)[word] for word in row)
+
+
+def boundaries(cut):
+    """The boundaries of the cut."""
+    return tuple(len("".join(cut[:k])) for k in range(1, len(cut)))
+
+
+def has_only_longest(words, cut):
+    """Whether each word of the cut is the longest one that begins the rest."""
+    for k, word in enumerate(cut):
+        rest = "".join(cut[k:])
+        if any(len(other) > len(word) and rest.startswith(other) for other, _ in words):
+            return False
+    return True
+
+
+def the_longest_match(words, text):
+    """The only one of all cuts in which each word is the longest one that begins the rest."""
+    found, = [cut for cut in all_cuts(words, text) if has_only_longest(words, cut)]
+    return found
+
+
+def turned(words):
+    """The reversed word list."""
+    return tuple(sorted((word[::-1], price) for word, price in words))
+
+
+def lists_over(letters, longer, prices):
+    """Word lists of the letters with up to three of the longer words, their costs in turn."""
+    found = []
+    for chosen in product((False, True), repeat=len(longer)):
+        some = [word for word, take in zip(longer, chosen) if take]
+        if len(some) <= 3:
+            spelled = sorted([*letters, *some])
+            found.append(tuple((word, prices[k % len(prices)]) for k, word in enumerate(spelled)))
+    return found
+
+
+TWO_LETTERS = lists_over("ab", ("aa", "ab", "ba", "aab", "abb", "bab", "abba"), (2, 1, 3))
+
+
+def told_name(case, function, arguments):
+    """The name that the BadValue tells which the call raises."""
+    with case.assertRaises(CutError) as caught:
+        function(*arguments)
+    error = caught.exception
+    case.assertIs(error.__class__, BadValue, (function.__name__, arguments))
+    return error.name
+
+
+def check_errors(case, function, good, wrong):
+    """Checks each wrong value of each argument, and that of two wrong ones the first is told.
+
+    good is a tuple of arguments for which the function returns; wrong is a
+    tuple of tuples (position, name, values), in the order of the positions.
+    """
+    function(*good)
+    for number, (position, name, values) in enumerate(wrong):
+        for value in values:
+            arguments = list(good)
+            arguments[position] = value
+            with case.subTest(function=function.__name__, name=name, value=value):
+                case.assertEqual(told_name(case, function, arguments), name)
+                for later, _, others in wrong[number + 1:]:
+                    for other in (others[0], others[-1]):
+                        two = list(arguments)
+                        two[later] = other
+                        case.assertEqual(told_name(case, function, two), name)
+
+
+def check_pure(case, function, *arguments):
+    """Checks point 2 for one call: arguments stay, equal calls give equal results."""
+    before = repr(arguments)
+    first = function(*arguments)
+    kept = repr(first)
+    if isinstance(first, list):
+        first.append("changed")
+        first.reverse()
+    second = function(*arguments)
+    case.assertEqual(repr(second), kept, (function.__name__, arguments))
+    if isinstance(first, list):
+        case.assertIsNot(first, second)
+    case.assertEqual(repr(arguments), before)
+
+
+def check_kind(case, kind, value):
+    """Checks that the value is exactly of this kind: True is no integer."""
+    case.assertIs(value.__class__, kind, value)

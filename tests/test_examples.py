@@ -1,0 +1,79 @@
+"""The examples of the document, to the letter, and those of points 20 and 31."""
+
+import doctest
+import unittest
+
+from greedycuts.errors import BadValue
+from greedycuts.lists import without_word
+from greedycuts.matches import free_indexes, occurrences
+from greedycuts.cuts import count_cuts, nth_cut
+
+LISTS_AND_MATCHES = """
+>>> from greedycuts.lists import beginnings_of, cost_of_word, letters_of, reversed_list, with_word, without_word
+>>> from greedycuts.matches import free_indexes, longest_at, occurrences, over, words_at, words_ending
+>>> words = (("a", 1), ("ab", 1), ("b", 2))
+>>> letters_of(words), beginnings_of(words), cost_of_word(words, "b")
+('ab', ('', 'a'), 2)
+>>> words_at(words, "abb", 0), words_ending(words, "abb", 2), longest_at(words, "abb", 0)
+(('a', 'ab'), ('b', 'ab'), 'ab')
+>>> occurrences(words, "abb"), over(words, "abb", 1), free_indexes(words, "abb")
+([(0, 1), (0, 2), (1, 2), (2, 3)], [(0, 2)], [0, 2, 3])
+>>> reversed_list(words)
+(('a', 1), ('b', 2), ('ba', 1))
+>>> with_word(words, "bab", 3), without_word(words, "ab")
+((('a', 1), ('ab', 1), ('b', 2), ('bab', 3)), (('a', 1), ('b', 2)))
+>>> beginnings_of(with_word(words, "bab", 3))
+('', 'a', 'b', 'ba')
+"""
+
+CUTS = """
+>>> from greedycuts.cuts import boundaries_of, common_cut, count_cuts, count_with, cut_at, cut_cost, fewest_words
+>>> from greedycuts.cuts import index_of_cut, is_cut, is_finer, nth_cut
+>>> words = (("a", 1), ("ab", 1), ("b", 1), ("bcd", 2), ("c", 1), ("d", 1))
+>>> count_cuts(words, "abcd"), nth_cut(words, "abcd", 1), index_of_cut(words, "abcd", ("ab", "c", "d"))
+(3, ('a', 'bcd'), 2)
+>>> is_cut(words, "abcd", ("a", "b")), index_of_cut(words, "abcd", ("a", "b")) is None, cut_cost(words, "abcd", ("a", "bcd"))
+(False, True, 3)
+>>> count_with(words, "abcd", 3), fewest_words(words, "abcd"), boundaries_of(words, "abcd", ("ab", "c", "d"))
+(1, 2, (2, 3))
+>>> cut_at(words, "abcd", (1,)), cut_at(words, "abcd", (2,)) is None
+(('a', 'bcd'), True)
+>>> is_finer(words, "abcd", ("a", "b", "c", "d"), ("ab", "c", "d")), common_cut(words, "abcd", ("a", "bcd"), ("ab", "c", "d")) is None
+(True, True)
+"""
+
+
+class Examples(unittest.TestCase):
+    def run_text(self, name, text):
+        """Runs the calls of an example, and compares what they return with what stands below them."""
+        test = doctest.DocTestParser().get_doctest(text, {}, name, None, None)
+        told = []
+        failed, tried = doctest.DocTestRunner(verbose=False).run(test, out=told.append)
+        self.assertEqual(failed, 0, "".join(told))
+        self.assertGreater(tried, 0)
+
+    def test_lists_and_matches(self):
+        self.run_text("lists and matches", LISTS_AND_MATCHES)
+
+    def test_without_word_that_is_needed(self):
+        with self.assertRaises(BadValue) as caught:
+            without_word((("a", 1), ("ab", 1), ("b", 2)), "a")
+        self.assertEqual(caught.exception.name, "word")
+
+    def test_point_20(self):
+        words = (("a", 1), ("ab", 1), ("b", 2))
+        self.assertEqual(occurrences(words, "abb"), [(0, 1), (0, 2), (1, 2), (2, 3)])
+        self.assertNotIn(1, free_indexes(words, "abb"))
+
+    def test_cuts(self):
+        self.run_text("cuts", CUTS)
+
+    def test_point_31(self):
+        words = (("a", 1), ("ab", 1), ("b", 1), ("bcd", 1), ("c", 1), ("d", 1))
+        self.assertEqual(count_cuts(words, "abcd"), 3)
+        cuts = [nth_cut(words, "abcd", index) for index in (0, 1, 2)]
+        self.assertEqual(cuts, [("a", "b", "c", "d"), ("a", "bcd"), ("ab", "c", "d")])
+
+
+if __name__ == "__main__":
+    unittest.main()

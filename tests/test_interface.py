@@ -1,0 +1,55 @@
+"""Tests of the interface: its names stand in their files, with their arguments (points 7 and 8)."""
+
+import importlib
+import inspect
+import unittest
+
+FUNCTIONS = {
+    "lists": {
+        "is_list": "value", "is_text": "words value", "letters_of": "words", "beginnings_of": "words",
+        "cost_of_word": "words word", "reversed_list": "words", "with_word": "words word cost",
+        "without_word": "words word",
+    },
+    "matches": {
+        "words_at": "words text index", "words_ending": "words text index", "longest_at": "words text index",
+        "longest_ending": "words text index", "occurrences": "words text", "over": "words text index",
+        "free_indexes": "words text",
+    },
+    "cuts": {
+        "is_cut": "words text value", "cut_cost": "words text cut", "count_cuts": "words text",
+        "nth_cut": "words text index", "index_of_cut": "words text value", "count_with": "words text many",
+        "fewest_words": "words text", "boundaries_of": "words text cut", "cut_at": "words text boundaries",
+        "is_finer": "words text one other", "common_cut": "words text one other",
+    },
+}
+ERRORS = {"CutError": None, "BadValue": "name", "TooLarge": "what", "NotPossible": "why", "TextError": "column words"}
+
+
+def parameters(function):
+    """The names of the parameters, none of which has a default value."""
+    told = inspect.signature(function).parameters.values()
+    assert all(one.default is inspect.Parameter.empty for one in told)
+    return " ".join(one.name for one in told)
+
+
+class Interface(unittest.TestCase):
+    def test_functions(self):
+        for name, functions in FUNCTIONS.items():
+            module = importlib.import_module("greedycuts." + name)
+            for function, told in functions.items():
+                found = getattr(module, function)
+                self.assertTrue(inspect.isfunction(found), function)
+                self.assertEqual(found.__module__, "greedycuts." + name, function)
+                self.assertEqual(parameters(found), told, function)
+
+    def test_errors(self):
+        module = importlib.import_module("greedycuts.errors")
+        for name, told in ERRORS.items():
+            found = getattr(module, name)
+            self.assertEqual(found.__module__, "greedycuts.errors")
+            if told is not None:
+                self.assertEqual(parameters(found), told)
+
+
+if __name__ == "__main__":
+    unittest.main()
