@@ -13,10 +13,15 @@ DEAREST = 9
 LONGEST_TEXT = 30
 
 
+def is_plain_integer(value):
+    """Returns True if the value is an integer of any size."""
+    # True and False are integers for Python, but not for this program.
+    return isinstance(value, int) and not isinstance(value, bool)
+
+
 def is_integer(value, low, high):
     """Returns True if the value is an integer from low to high."""
-    # True and False are integers for Python, but not for this program.
-    return isinstance(value, int) and not isinstance(value, bool) and low <= value <= high
+    return is_plain_integer(value) and low <= value <= high
 
 
 def is_word(value):

@@ -65,18 +65,18 @@ def boundaries(cut):
     return tuple(len("".join(cut[:k])) for k in range(1, len(cut)))
 
 
-def has_only_longest(words, cut):
-    """Whether each word of the cut is the longest one that begins the rest."""
-    for k, word in enumerate(cut):
-        rest = "".join(cut[k:])
+def conflict(words, row):
+    """The least index of a word in conflict, by the definition of point 36, or None."""
+    for index, word in enumerate(row):
+        rest = "".join(row[index:])
         if any(len(other) > len(word) and rest.startswith(other) for other, _ in words):
-            return False
-    return True
+            return index
+    return None
 
 
 def the_longest_match(words, text):
     """The only one of all cuts in which each word is the longest one that begins the rest."""
-    found, = [cut for cut in all_cuts(words, text) if has_only_longest(words, cut)]
+    found, = [cut for cut in all_cuts(words, text) if conflict(words, cut) is None]
     return found
 
 

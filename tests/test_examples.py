@@ -1,12 +1,14 @@
-"""The examples of the document, to the letter, and those of points 20 and 31."""
+"""The examples of the document, to the letter, and those of points 20, 31, 43 and 54."""
 
 import doctest
 import unittest
 
+from greedycuts.costs import count_cheapest, first_cheapest
+from greedycuts.cuts import count_cuts, nth_cut
 from greedycuts.errors import BadValue
 from greedycuts.lists import without_word
+from greedycuts.longest import longest_match, match_from_end
 from greedycuts.matches import free_indexes, occurrences
-from greedycuts.cuts import count_cuts, nth_cut
 
 LISTS_AND_MATCHES = """
 >>> from greedycuts.lists import beginnings_of, cost_of_word, letters_of, reversed_list, with_word, without_word
@@ -42,6 +44,36 @@ CUTS = """
 (True, True)
 """
 
+LONGEST_AND_ROWS = """
+>>> from greedycuts.longest import longest_match, match_costs, match_from_end, meeting
+>>> from greedycuts.rows import canonical, count_texts, first_conflict, followers, is_canonical
+>>> words = (("a", 1), ("ab", 1), ("b", 1), ("bcd", 1), ("c", 1), ("d", 1))
+>>> longest_match(words, "abcd"), match_from_end(words, "abcd"), match_costs(words, "abcd")
+(('ab', 'c', 'd'), ('a', 'bcd'), (3, 2))
+>>> meeting(words, "abcd", 1), meeting(words, "abcd", 2)
+(4, 2)
+>>> is_canonical(words, ("a", "bcd")), first_conflict(words, ("c", "a", "bcd")), canonical(words, ("a", "bcd"))
+(False, 1, ('ab', 'c', 'd'))
+>>> few = (("a", 1), ("ab", 1), ("b", 1))
+>>> followers(few, "a"), count_texts(few, 2, 1), count_texts(few, 3, 2)
+(('a', 'ab'), 1, 4)
+"""
+
+COSTS_AND_HEIGHTS = """
+>>> from greedycuts.costs import certain_words, cost_through, costs_of, count_cheapest, first_cheapest, possible_boundaries, waste
+>>> from greedycuts.heights import accepts_heights, is_cheapest
+>>> words = (("a", 1), ("ab", 1), ("b", 1), ("bcd", 1), ("c", 1), ("d", 1))
+>>> first_cheapest(words, "abcd"), costs_of(words, "abcd"), waste(words, "abcd")
+(('a', 'bcd'), (0, 1, 1, 2, 2), 1)
+>>> cost_through(words, "abcd", 2), certain_words(words, "abcd")
+(3, [(0, 1), (1, 4)])
+>>> some = (("a", 1), ("aa", 1), ("aaa", 1))
+>>> count_cheapest(some, "aaaa"), first_cheapest(some, "aaaa"), possible_boundaries(some, "aaaa")
+(3, ('a', 'aaa'), [1, 2, 3])
+>>> is_cheapest(words, "abcd", ("a", "bcd"), (0, 1, 1, 1, 2)), accepts_heights(words, "abcd", (0, 1, 1, 3, 2))
+(True, False)
+"""
+
 
 class Examples(unittest.TestCase):
     def run_text(self, name, text):
@@ -73,6 +105,22 @@ class Examples(unittest.TestCase):
         self.assertEqual(count_cuts(words, "abcd"), 3)
         cuts = [nth_cut(words, "abcd", index) for index in (0, 1, 2)]
         self.assertEqual(cuts, [("a", "b", "c", "d"), ("a", "bcd"), ("ab", "c", "d")])
+
+    def test_longest_and_rows(self):
+        self.run_text("longest and rows", LONGEST_AND_ROWS)
+
+    def test_point_43(self):
+        words = (("a", 1), ("ab", 1), ("b", 1), ("bcd", 1), ("c", 1), ("d", 1))
+        self.assertEqual(longest_match(words, "abcd"), ("ab", "c", "d"))
+        self.assertEqual(match_from_end(words, "abcd"), ("a", "bcd"))
+
+    def test_costs_and_heights(self):
+        self.run_text("costs and heights", COSTS_AND_HEIGHTS)
+
+    def test_point_54(self):
+        words = (("a", 1), ("ab", 1), ("b", 1), ("bcd", 1), ("c", 1), ("d", 1))
+        self.assertEqual((count_cheapest(words, "abcd"), first_cheapest(words, "abcd")), (1, ("a", "bcd")))
+        self.assertEqual(count_cheapest((("a", 1), ("aa", 1), ("aaa", 1)), "aaaa"), 3)
 
 
 if __name__ == "__main__":

@@ -21,6 +21,21 @@ FUNCTIONS = {
         "fewest_words": "words text", "boundaries_of": "words text cut", "cut_at": "words text boundaries",
         "is_finer": "words text one other", "common_cut": "words text one other",
     },
+    "longest": {
+        "longest_match": "words text", "match_from_end": "words text", "match_costs": "words text",
+        "match_from": "words text index", "meeting": "words text index",
+    },
+    "rows": {
+        "is_canonical": "words row", "first_conflict": "words row", "canonical": "words row",
+        "followers": "words word", "count_texts": "words letters many",
+    },
+    "costs": {
+        "least_cost": "words text", "waste": "words text", "first_cheapest": "words text",
+        "count_cheapest": "words text", "costs_of": "words text", "cost_through": "words text index",
+        "possible_boundaries": "words text", "certain_boundaries": "words text", "possible_words": "words text",
+        "certain_words": "words text",
+    },
+    "heights": {"accepts_heights": "words text heights", "is_cheapest": "words text cut heights"},
 }
 ERRORS = {"CutError": None, "BadValue": "name", "TooLarge": "what", "NotPossible": "why", "TextError": "column words"}
 
