@@ -35,6 +35,11 @@ def find_least(words, text):
     return costs_before(words, text)[-1]
 
 
+def find_waste(words, text):
+    """The waste of the text."""
+    return sum_costs(words, find_match(words, text, 0)) - find_least(words, text)
+
+
 def words_of_cheapest(words, text, behind, index):
     """The words with which cheapest cuts of the rest of the text begin, a list, the shorter ones first.
 
@@ -77,7 +82,7 @@ def least_cost(words, text):
 def waste(words, text):
     """Returns the waste of the text."""
     check_text(words, text)
-    return sum_costs(words, find_match(words, text, 0)) - find_least(words, text)
+    return find_waste(words, text)
 
 
 def first_cheapest(words, text):

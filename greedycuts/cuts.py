@@ -63,6 +63,12 @@ def check_cut(words, text, value, name):
         raise BadValue(name)
 
 
+def check_row(words, value, most):
+    """Raises BadValue if the value is no row of at most so many words."""
+    if not is_row(words, value) or len(value) > most:
+        raise BadValue("row")
+
+
 def check_boundaries(text, value):
     """Raises BadValue if the value cannot be the boundaries of a cut of some list."""
     if not isinstance(value, tuple):

@@ -55,12 +55,17 @@ def find_letters(words):
     return "".join([word for word, cost in words if len(word) == 1])
 
 
-def fits(words, value):
-    """Returns True if the value is a text of the list."""
-    if not isinstance(value, str) or len(value) > LONGEST_TEXT:
+def has_letters(words, value):
+    """Returns True if the value is a string of letters of the list, of any length."""
+    if not isinstance(value, str):
         return False
     letters = find_letters(words)
     return all([letter in letters for letter in value])
+
+
+def fits(words, value):
+    """Returns True if the value is a text of the list."""
+    return has_letters(words, value) and len(value) <= LONGEST_TEXT
 
 
 def has_word(words, value):
@@ -128,10 +133,15 @@ def cost_of_word(words, word):
     return dict(words)[word]
 
 
+def turn_list(words):
+    """The reversed word list."""
+    return tuple(sorted([(word[::-1], cost) for word, cost in words]))
+
+
 def reversed_list(words):
     """Returns the word list with the letters of each word in reversed sequence."""
     check_list(words)
-    return tuple(sorted([(word[::-1], cost) for word, cost in words]))
+    return turn_list(words)
 
 
 def with_word(words, word, cost):

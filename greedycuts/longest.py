@@ -30,22 +30,6 @@ def find_match_from_end(words, text):
     return tuple(match_words[::-1])
 
 
-def may_grow(words, held):
-    """Returns True if some word is longer than the held letters and begins with them."""
-    return any([len(word) > len(held) and word.startswith(held) for word, cost in words])
-
-
-def read_letter(words, held, letter):
-    """What the reader of point 55 gives out on the letter, a list, and what it holds then."""
-    held += letter
-    given = []
-    while held != "" and not may_grow(words, held):
-        word = find_starting(words, held, 0)[-1]
-        given.append(word)
-        held = held[len(word):]
-    return given, held
-
-
 def longest_match(words, text):
     """Returns the longest match of the text, a tuple of words."""
     check_text(words, text)

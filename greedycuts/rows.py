@@ -1,20 +1,19 @@
 """Rows of words, those that are longest matches, and how many texts have one of so many words."""
 
-from greedycuts.cuts import is_row
-from greedycuts.errors import BadValue
+from greedycuts.cuts import check_row
 from greedycuts.lists import check_integer, check_list, check_word, find_beginnings, find_letters
-from greedycuts.longest import find_match, read_letter
+from greedycuts.longest import find_match
 from greedycuts.matches import find_starting
+from greedycuts.reader import read_letters
 
 LONGEST_ROW = 30
 MOST_TO_COUNT = 20
 
 
-def check_row(words, row):
+def check_list_and_row(words, row):
     """Raises BadValue if the first argument is no word list, or the second one no row of at most 30 words."""
     check_list(words)
-    if not is_row(words, row) or len(row) > LONGEST_ROW:
-        raise BadValue("row")
+    check_row(words, row, LONGEST_ROW)
 
 
 def find_conflict(words, row):
@@ -30,19 +29,19 @@ def find_conflict(words, row):
 
 def is_canonical(words, row):
     """Returns True if the row is canonical, otherwise False."""
-    check_row(words, row)
+    check_list_and_row(words, row)
     return find_conflict(words, row) is None
 
 
 def first_conflict(words, row):
     """Returns the least index of a word of the row that is in conflict, or None."""
-    check_row(words, row)
+    check_list_and_row(words, row)
     return find_conflict(words, row)
 
 
 def canonical(words, row):
     """Returns the longest match of the text that the row makes up."""
-    check_row(words, row)
+    check_list_and_row(words, row)
     return find_match(words, "".join(row), 0)
 
 
@@ -60,8 +59,8 @@ def find_steps(words):
     """
     steps = {}
     for held in find_beginnings(words):
-        read = [read_letter(words, held, letter) for letter in find_letters(words)]
-        steps[held] = [(len(given), after) for given, after in read]
+        read = [read_letters(words, held, letter) for letter in find_letters(words)]
+        steps[held] = [(len(given), left) for given, left in read]
     return steps
 
 
@@ -73,8 +72,8 @@ def count_one_letter_more(steps, counts):
     """
     more = {}
     for (held, given), number in counts.items():
-        for many, after in steps[held]:
-            pair = (after, given + many)
+        for many, left in steps[held]:
+            pair = (left, given + many)
             more[pair] = more.get(pair, 0) + number
     return more
 

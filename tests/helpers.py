@@ -80,6 +80,46 @@ def the_longest_match(words, text):
     return found
 
 
+def greedy(words, text):
+    """The longest match of a text of any length."""
+    row = []
+    while text:
+        row.append(max((word for word, _ in words if text.startswith(word)), key=len))
+        text = text[len(row[-1]):]
+    return tuple(row)
+
+
+def least(words, text):
+    """The least cost of a text of any length, from that of its beginnings."""
+    costs = [0]
+    for end in range(1, len(text) + 1):
+        ending = [(word, price) for word, price in words if text[:end].endswith(word)]
+        costs.append(min(costs[end - len(word)] + price for word, price in ending))
+    return costs[-1]
+
+
+def read_slowly(words, held, letters):
+    """What the reader gives out on the letters and holds then, letter by letter, as point 55 tells it."""
+    given = []
+    for letter in letters:
+        held += letter
+        while held and not any(len(word) > len(held) and word.startswith(held) for word, _ in words):
+            given.append(max((word for word, _ in words if held.startswith(word)), key=len))
+            held = held[len(given[-1]):]
+    return given, held
+
+
+def rows_of(words, most):
+    """All rows of at most so many words."""
+    spelled = [word for word, _ in words]
+    return [row for many in range(most + 1) for row in product(spelled, repeat=many)]
+
+
+def by_length(texts):
+    """The texts, in order by length."""
+    return sorted(texts, key=lambda text: (len(text), text))
+
+
 def turned(words):
     """The reversed word list."""
     return tuple(sorted((word[::-1], price) for word, price in words))
@@ -97,6 +137,7 @@ def lists_over(letters, longer, prices):
 
 
 TWO_LETTERS = lists_over("ab", ("aa", "ab", "ba", "aab", "abb", "bab", "abba"), (2, 1, 3))
+THREE_LETTERS = lists_over("abc", ("ab", "bc", "cab", "bca", "abca", "cc"), (1, 2))
 
 
 def told_name(case, function, arguments):

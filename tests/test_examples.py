@@ -1,4 +1,4 @@
-"""The examples of the document, to the letter, and those of points 20, 31, 43 and 54."""
+"""The examples of the document, to the letter, and those of points 20, 31, 43, 54, 64, 74 and 84."""
 
 import doctest
 import unittest
@@ -6,9 +6,12 @@ import unittest
 from greedycuts.costs import count_cheapest, first_cheapest
 from greedycuts.cuts import count_cuts, nth_cut
 from greedycuts.errors import BadValue
+from greedycuts.leaving import change
 from greedycuts.lists import without_word
 from greedycuts.longest import longest_match, match_from_end
 from greedycuts.matches import free_indexes, occurrences
+from greedycuts.optimality import always_best, always_best_from_end, wasteful
+from greedycuts.reader import after
 
 LISTS_AND_MATCHES = """
 >>> from greedycuts.lists import beginnings_of, cost_of_word, letters_of, reversed_list, with_word, without_word
@@ -74,6 +77,57 @@ COSTS_AND_HEIGHTS = """
 (True, False)
 """
 
+READER_AND_CERTAIN = """
+>>> from greedycuts.certain import accepts_contrary, first_contrary, is_certain
+>>> from greedycuts.reader import Reader, after, all_held, extensions
+>>> words = (("a", 1), ("ab", 1), ("b", 1), ("bcd", 1), ("c", 1), ("d", 1))
+>>> after(words, "abc"), after(words, "bc"), after(words, "bca")
+((('ab', 'c'), ''), ((), 'bc'), (('b', 'c'), 'a'))
+>>> extensions(words, "abb"), all_held(words)
+(['bcd'], ['', 'a', 'b', 'bc'])
+>>> is_certain(words, "abb", ("ab",)), first_contrary(words, "abb", ("ab", "b"))
+(True, 'cd')
+>>> first_contrary(words, "abb", ("ab", "bcd")), accepts_contrary(words, "abb", ("ab", "b"), "cd")
+('', True)
+>>> reader = Reader(words)
+>>> reader.read("ab"), reader.read("b"), reader.read("c"), reader.held()
+(['ab'], [], [], 'bc')
+>>> reader.finish(), reader.read("dbc")
+(['b', 'c'], ['d'])
+"""
+
+OPTIMALITY = """
+>>> from greedycuts.optimality import always_best, always_best_from_end, counterexample, counterexample_from_end
+>>> from greedycuts.optimality import greatest_test_waste, test_texts, waste, wasteful
+>>> words = (("a", 1), ("ab", 1), ("b", 1), ("bcd", 1), ("c", 1), ("d", 1))
+>>> always_best(words), counterexample(words), wasteful(words), always_best_from_end(words)
+(False, 'abcd', ['abcd'], True)
+>>> other = (("a", 1), ("abc", 1), ("b", 1), ("c", 1), ("cd", 1), ("d", 1))
+>>> always_best(other), counterexample_from_end(other)
+(True, 'abcd')
+>>> dear = (("a", 1), ("aa", 9))
+>>> test_texts(dear), wasteful(dear), greatest_test_waste(dear), waste(dear, "aaaa")
+(['a', 'aa', 'aaa'], ['aa', 'aaa'], 7, 14)
+"""
+
+LEAVING = """
+>>> from greedycuts.leaving import accepts_rests, change, first_dearer, greatest_change, is_closed, is_graded, is_kind, rests, shows_more
+>>> words = (("a", 1), ("ab", 1), ("b", 2), ("bba", 1), ("bbab", 1))
+>>> change(words, "first", "ab"), change(words, "last", "ab"), change(words, "first", "bbab")
+(1, 0, 2)
+>>> greatest_change(words, "first"), greatest_change(words, "last"), first_dearer(words, "first")
+((2, 'bba'), (3, 'bba'), 'ab')
+>>> shows_more(words, "first", "ab", (0, 2)), shows_more(words, "first", "ab", (0, 3)), rests(words, "first") is None
+(True, False, True)
+>>> is_closed(words, "last"), is_closed((("a", 1), ("ab", 1), ("b", 2)), "first"), is_graded(words)
+(False, True, True)
+>>> kind = (("a", 1), ("ab", 1), ("b", 1), ("bab", 1))
+>>> is_kind(kind), rests(kind, "first")
+(True, ((), ('b',), (), ('ab',)))
+>>> accepts_rests(kind, "first", ((), ("b",), (), ("a", "b")))
+False
+"""
+
 
 class Examples(unittest.TestCase):
     def run_text(self, name, text):
@@ -121,6 +175,31 @@ class Examples(unittest.TestCase):
         words = (("a", 1), ("ab", 1), ("b", 1), ("bcd", 1), ("c", 1), ("d", 1))
         self.assertEqual((count_cheapest(words, "abcd"), first_cheapest(words, "abcd")), (1, ("a", "bcd")))
         self.assertEqual(count_cheapest((("a", 1), ("aa", 1), ("aaa", 1)), "aaaa"), 3)
+
+    def test_reader_and_certain(self):
+        self.run_text("reader and certain", READER_AND_CERTAIN)
+
+    def test_point_64(self):
+        words = (("a", 1), ("ab", 1), ("b", 1), ("bcd", 1), ("c", 1), ("d", 1))
+        self.assertEqual([after(words, text) for text in ("abc", "bc", "bca")], [
+            (("ab", "c"), ""), ((), "bc"), (("b", "c"), "a"),
+        ])
+
+    def test_optimality(self):
+        self.run_text("optimality", OPTIMALITY)
+
+    def test_point_74(self):
+        words = (("a", 1), ("ab", 1), ("b", 1), ("bcd", 1), ("c", 1), ("d", 1))
+        self.assertEqual((always_best(words), wasteful(words), always_best_from_end(words)), (False, ["abcd"], True))
+        other = (("a", 1), ("abc", 1), ("b", 1), ("c", 1), ("cd", 1), ("d", 1))
+        self.assertEqual((always_best(other), always_best_from_end(other)), (True, False))
+
+    def test_leaving(self):
+        self.run_text("leaving", LEAVING)
+
+    def test_point_84(self):
+        words = (("a", 1), ("ab", 1), ("b", 2), ("bba", 1), ("bbab", 1))
+        self.assertEqual(change(words, "first", "ab"), 1)
 
 
 if __name__ == "__main__":

@@ -36,7 +36,22 @@ FUNCTIONS = {
         "certain_words": "words text",
     },
     "heights": {"accepts_heights": "words text heights", "is_cheapest": "words text cut heights"},
+    "reader": {"after": "words text", "extensions": "words text", "all_held": "words"},
+    "certain": {
+        "is_certain": "words text row", "first_contrary": "words text row", "accepts_contrary": "words text row rest",
+    },
+    "optimality": {
+        "waste": "words text", "test_texts": "words", "wasteful": "words", "greatest_test_waste": "words",
+        "always_best": "words", "counterexample": "words", "always_best_from_end": "words",
+        "counterexample_from_end": "words",
+    },
+    "leaving": {
+        "change": "words side word", "greatest_change": "words side", "never_costs_more": "words side",
+        "first_dearer": "words side", "rests": "words side", "accepts_rests": "words side value",
+        "shows_more": "words side word heights", "is_closed": "words side", "is_graded": "words", "is_kind": "words",
+    },
 }
+CLASSES = {"reader": {"Reader": {"__init__": "self words", "read": "self piece", "held": "self", "finish": "self"}}}
 ERRORS = {"CutError": None, "BadValue": "name", "TooLarge": "what", "NotPossible": "why", "TextError": "column words"}
 
 
@@ -56,6 +71,17 @@ class Interface(unittest.TestCase):
                 self.assertTrue(inspect.isfunction(found), function)
                 self.assertEqual(found.__module__, "greedycuts." + name, function)
                 self.assertEqual(parameters(found), told, function)
+
+    def test_classes(self):
+        for name, classes in CLASSES.items():
+            module = importlib.import_module("greedycuts." + name)
+            for one, methods in classes.items():
+                found = getattr(module, one)
+                self.assertTrue(inspect.isclass(found), one)
+                self.assertEqual(found.__module__, "greedycuts." + name, one)
+                for method, told in methods.items():
+                    # The method stands in the class itself, not in a base class.
+                    self.assertEqual(parameters(vars(found)[method]), told, method)
 
     def test_errors(self):
         module = importlib.import_module("greedycuts.errors")

@@ -3,7 +3,7 @@
 import unittest
 
 from greedycuts.lists import is_list, reversed_list
-from greedycuts.longest import longest_match, match_costs, match_from, match_from_end, meeting, read_letter
+from greedycuts.longest import longest_match, match_costs, match_from, match_from_end, meeting
 from tests import helpers
 from tests.helpers import (
     ALL_AS, BAD_LISTS, BAD_NUMBERS, BAD_TEXTS, DEAR, DOC, EIGHT, LETTERS_ONLY, LISTS, LONG, ONE, check_errors,
@@ -116,10 +116,7 @@ class Rests(unittest.TestCase):
     def test_point_40_only_the_end_changes(self):
         for words in (*LISTS, *helpers.TWO_LETTERS[::5]):
             for text in helpers.texts_of(words, 3):
-                given, held = [], ""
-                for letter in text:
-                    more, held = read_letter(words, held, letter)
-                    given += more
+                given, _ = helpers.read_slowly(words, "", text)
                 for other in helpers.texts_of(words, 2):
                     self.assertEqual(longest_match(words, text + other)[:len(given)], tuple(given))
 

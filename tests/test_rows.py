@@ -1,7 +1,6 @@
 """Tests of greedycuts.rows: points 2, 7, 35 to 39 and 42."""
 
 import unittest
-from itertools import product
 
 from greedycuts.longest import longest_match
 from greedycuts.rows import canonical, count_texts, first_conflict, followers, is_canonical
@@ -19,16 +18,10 @@ NO_ROWS = (
 NO_NUMBERS = (None, True, False, -1, 21, 30, "1", "", (), (1,), [1], 10 ** 40)
 
 
-def rows_of(words, most):
-    """All rows of at most so many words."""
-    spelled = [word for word, _ in words]
-    return [row for many in range(most + 1) for row in product(spelled, repeat=many)]
-
-
 def some_rows():
     """Word lists with rows."""
     for words in (*LISTS, *TWO_LETTERS[::4]):
-        for row in rows_of(words, 3):
+        for row in helpers.rows_of(words, 3):
             yield words, row
 
 
