@@ -109,6 +109,42 @@ def read_slowly(words, held, letters):
     return given, held
 
 
+def slow_steps(words, held, tail, letter):
+    """The steps from a pair with the letter, as point 86 tells them, in ascending order."""
+    given, left = read_slowly(words, held, letter)
+    longer = tail + letter
+    ways = [("", price) for word, price in words if word == longer]
+    if any(len(word) > len(longer) and word.startswith(longer) for word, _ in words):
+        ways.append((longer, 0))
+    return sorted((left, ahead, cost(words, given), loss) for ahead, loss in ways)
+
+
+def slow_pairs(words):
+    """All pairs to which steps lead from the first one, a set."""
+    found, new = set(), {("", "")}
+    while new:
+        found |= new
+        letters = texts_of(words, 1)[1:]
+        led = {step[:2] for held, tail in new for letter in letters for step in slow_steps(words, held, tail, letter)}
+        new = led - found
+    return found
+
+
+def slow_right(words, a, b, c, value):
+    """Whether potentials that have the right form are right for the bound, as point 88 tells it."""
+    numbers = {(held, tail): number for held, tail, number in value}
+    if numbers.get(("", ""), -1) < 0:
+        return False
+    for (held, tail), number in numbers.items():
+        if tail == "" and number + b * cost(words, greedy(words, held)) > c:
+            return False
+        for letter in texts_of(words, 1)[1:]:
+            for left, ahead, gain, loss in slow_steps(words, held, tail, letter):
+                if (left, ahead) not in numbers or numbers[left, ahead] < number + b * gain - a * loss:
+                    return False
+    return True
+
+
 def rows_of(words, most):
     """All rows of at most so many words."""
     spelled = [word for word, _ in words]

@@ -1,4 +1,4 @@
-"""The examples of the document, to the letter, and those of points 20, 31, 43, 54, 64, 74 and 84."""
+"""The examples of the document, to the letter, and those of points 20, 31, 43, 54, 64, 74, 84 and 98."""
 
 import doctest
 import unittest
@@ -12,6 +12,7 @@ from greedycuts.longest import longest_match, match_from_end
 from greedycuts.matches import free_indexes, occurrences
 from greedycuts.optimality import always_best, always_best_from_end, wasteful
 from greedycuts.reader import after
+from greedycuts.rounds import round_sums
 
 LISTS_AND_MATCHES = """
 >>> from greedycuts.lists import beginnings_of, cost_of_word, letters_of, reversed_list, with_word, without_word
@@ -128,6 +129,27 @@ LEAVING = """
 False
 """
 
+WORST = """
+>>> from greedycuts.pairs import pairs_of, steps_from
+>>> from greedycuts.potentials import are_right, potentials_for
+>>> from greedycuts.rounds import round_sums
+>>> from greedycuts.worst import accepts_answer, answer_for, is_bound, worst_excess, worst_ratio
+>>> dear = (("a", 1), ("aa", 9))
+>>> worst_ratio(dear), worst_excess(dear), is_bound(dear, 5, 1, 0), is_bound(dear, 4, 1, 1000)
+((9, 2), 0, True, False)
+>>> pairs_of(dear), steps_from(dear, "a", "", "a")
+((('', ''), ('', 'a'), ('a', ''), ('a', 'a')), [('', '', 9, 1), ('', 'a', 9, 0)])
+>>> round_sums(dear, ("", "aa", "", ("a", "a")))
+(9, 2)
+>>> are_right(dear, 9, 2, 0, (("", "", 0), ("", "a", 9), ("a", "", -9), ("a", "a", 0)))
+True
+>>> worst_ratio((("a", 1), ("aaa", 1), ("aaaa", 1))), worst_excess((("a", 1), ("aaa", 1), ("aaaa", 1)))
+((1, 1), 1)
+>>> words = (("a", 1), ("ab", 1), ("b", 1), ("bcd", 1), ("c", 1), ("d", 1))
+>>> worst_ratio(words), accepts_answer(words, answer_for(words))
+((3, 2), True)
+"""
+
 
 class Examples(unittest.TestCase):
     def run_text(self, name, text):
@@ -200,6 +222,15 @@ class Examples(unittest.TestCase):
     def test_point_84(self):
         words = (("a", 1), ("ab", 1), ("b", 2), ("bba", 1), ("bbab", 1))
         self.assertEqual(change(words, "first", "ab"), 1)
+
+    def test_worst(self):
+        self.run_text("worst", WORST)
+
+    def test_point_98(self):
+        dear = (("a", 1), ("aa", 9))
+        self.assertEqual(round_sums(dear, ("", "aa", "", ("a", "a"))), (9, 2))
+        words = (("a", 1), ("ab", 1), ("b", 1), ("bcd", 1), ("c", 1), ("d", 1))
+        self.assertEqual(round_sums(words, ("", "abcd", "", ("a", "bcd"))), (3, 2))
 
 
 if __name__ == "__main__":

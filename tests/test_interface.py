@@ -50,6 +50,13 @@ FUNCTIONS = {
         "first_dearer": "words side", "rests": "words side", "accepts_rests": "words side value",
         "shows_more": "words side word heights", "is_closed": "words side", "is_graded": "words", "is_kind": "words",
     },
+    "pairs": {"pairs_of": "words", "steps_from": "words held tail letter"},
+    "rounds": {"round_sums": "words value"},
+    "potentials": {"are_right": "words a b c value", "potentials_for": "words a b c"},
+    "worst": {
+        "worst_ratio": "words", "worst_excess": "words", "is_bound": "words a b c", "answer_for": "words",
+        "accepts_answer": "words value",
+    },
 }
 CLASSES = {"reader": {"Reader": {"__init__": "self words", "read": "self piece", "held": "self", "finish": "self"}}}
 ERRORS = {"CutError": None, "BadValue": "name", "TooLarge": "what", "NotPossible": "why", "TextError": "column words"}
