@@ -7,7 +7,7 @@ do not check words.
 from math import gcd
 
 from greedycuts.cuts import gives_text, sum_costs
-from greedycuts.lists import check_list, has_letters, is_plain_integer
+from greedycuts.lists import check_list, is_plain_integer
 from greedycuts.longest import find_match
 from greedycuts.pairs import list_steps
 from greedycuts.potentials import as_potentials, check_bound, find_potentials, right_potentials
@@ -62,7 +62,7 @@ def has_excess(words, a, b, excess, value):
     if not isinstance(value, tuple) or len(value) != 2:
         return False
     text, cut = value
-    if not has_letters(words, text) or not gives_text(words, text, cut):
+    if not gives_text(words, text, cut):
         return False
     return b * sum_costs(words, find_match(words, text, 0)) - a * sum_costs(words, cut) == excess
 

@@ -162,6 +162,7 @@ class Answers(unittest.TestCase):
             self.assertIs(slow_right(words, a, b, excess, table), True)
             if excess > 0:
                 self.assertIs(slow_right(words, a, b, excess - 1, table), False)
+                self.assertIs(are_right(words, a, b, excess - 1, table), False)
 
     def test_point_93_the_example(self):
         self.assertIs(accepts_answer(DEAR, GOOD), True)
@@ -200,6 +201,16 @@ class Answers(unittest.TestCase):
                 self.assertIs(accepts_answer(DEAR, value), False, value)
         for value in replaced(4, with_changes(GOOD[4], -1)):
             self.assertIs(accepts_answer(DEAR, value), False, value)
+
+    def test_point_93_the_ratio_is_in_lowest_terms(self):
+        # All else would be right for these.
+        doubled = tuple((held, tail, 2 * number) for held, tail, number in GOOD[4])
+        self.assertIs(are_right(DEAR, 18, 4, 0, doubled), True)
+        self.assertIs(accepts_answer(DEAR, ((18, 4), *GOOD[1:4], doubled)), False)
+        rest = (0, ("", "z", "", ("z",)), ("", ()), (("", "", 0),))
+        for ratio in ((2, 2), (-1, -1), (0, 0), (1, -1)):
+            self.assertIs(accepts_answer(ONE, (ratio, *rest)), False)
+        self.assertIs(accepts_answer(ONE, ((1, 1), *rest)), True)
 
     def test_points_93_and_97_every_value_is_valid(self):
         for value in (*NOTHING, list(GOOD), GOOD[:4], GOOD[1:], (*GOOD, ()), GOOD[::-1], (GOOD,), [GOOD], ((),) * 5, ("",) * 5):
