@@ -43,17 +43,19 @@ def steps_on(words, pair):
     ]
 
 
-def list_steps(words):
-    """The steps from all pairs of the word list, a list of tuples as steps_on tells them.
+def follow_steps(steps_at):
+    """The steps from START and from all pairs to which steps lead, a list.
 
-    A pair to which a step leads comes ahead of the steps from it.
+    steps_at tells the steps from a pair, a list of tuples as steps_on does. A
+    pair to which a step leads comes ahead of the steps from it, and a pair that
+    is found by a shorter way ahead of the others.
     """
     found = [START]
     known = {START: True}
     steps = []
     index = 0
     while index < len(found):
-        more = steps_on(words, found[index])
+        more = steps_at(found[index])
         index += 1
         steps.extend(more)
         for pair, letter, ahead, gain, loss in more:
@@ -61,6 +63,11 @@ def list_steps(words):
                 known[ahead] = True
                 found.append(ahead)
     return steps
+
+
+def list_steps(words):
+    """The steps from all pairs of the word list, a list of tuples as steps_on tells them."""
+    return follow_steps(lambda pair: steps_on(words, pair))
 
 
 def find_pairs(words):

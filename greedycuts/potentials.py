@@ -31,18 +31,33 @@ def is_triple(words, value):
     return has_letters(words, held) and has_letters(words, tail) and is_plain_integer(number)
 
 
+def is_held_triple(ones, others, value):
+    """Returns True if the value is a tuple of one string of each of both lists and an integer."""
+    if not isinstance(value, tuple) or len(value) != 3:
+        return False
+    return value[0] in ones and value[1] in others and is_plain_integer(value[2])
+
+
+def are_ascending(triples):
+    """Returns True if the pairs of the triples are different and in ascending order."""
+    pairs = [(held, tail) for held, tail, number in triples]
+    return pairs == sorted(set(pairs))
+
+
 def are_potentials(words, value):
     """Returns True if the value has the form of potentials."""
     if not isinstance(value, tuple) or not all([is_triple(words, triple) for triple in value]):
         return False
-    pairs = [(held, tail) for held, tail, number in value]
-    return pairs == sorted(set(pairs))
+    return are_ascending(value)
 
 
-def has_room(words, a, b, numbers, pair):
-    """Returns True if the numbers rise along each step from the pair at least by what it costs more."""
+def has_room(words, a, b, pair, number, numbers):
+    """Returns True if each step from the pair leads to one with a number that is great enough.
+
+    number is that of the pair itself, numbers has those to which the steps lead.
+    """
     return all([
-        ahead in numbers and numbers[ahead] >= numbers[pair] + b * gain - a * loss
+        ahead in numbers and numbers[ahead] >= number + b * gain - a * loss
         for _, letter, ahead, gain, loss in steps_on(words, pair)
     ])
 
@@ -61,7 +76,7 @@ def right_potentials(words, a, b, c, value):
         return False
     if not all([ends_below(words, b, c, held, number) for held, tail, number in value if tail == ""]):
         return False
-    return all([has_room(words, a, b, numbers, pair) for pair in numbers])
+    return all([has_room(words, a, b, pair, number, numbers) for pair, number in numbers.items()])
 
 
 def as_potentials(sums):

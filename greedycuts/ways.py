@@ -1,7 +1,7 @@
 """Ways along steps from pair to pair: the greatest sums, and cycles that make them grow without limit.
 
 A step is a tuple (pair, letter, the pair to which it leads, gain, loss), as
-list_steps of greedycuts.pairs tells them; a way is a list of steps, each of
+follow_steps of greedycuts.pairs tells them; a way is a list of steps, each of
 which goes on where the one before it has led. All functions here serve the
 rest of the package, and none of them checks its arguments.
 """
@@ -39,8 +39,8 @@ def greatest_sums(steps, a, b):
     sums = {START: 0}
     last = {}
     raised = START
-    # A way without a cycle has less steps than there are pairs, so in the last round only a cycle raises a sum.
-    for _ in range(len(set([step[0] for step in steps]))):
+    # A way without a cycle has a step from each pair at most, so in the last round only a cycle raises a sum.
+    for _ in range(len(set([step[0] for step in steps])) + 1):
         raised = raise_sums(steps, a, b, sums, last)
         if raised is None:
             return sums, last, None
@@ -88,3 +88,23 @@ def totals_of(words, b, sums):
         (number + b * sum_costs(words, find_match(words, held, 0)), (held, tail))
         for (held, tail), number in sums.items() if tail == ""
     ])
+
+
+def keep_least(table, key, value):
+    """Puts in the value for the key if there is none or only a greater one."""
+    table[key] = min(table.get(key, value), value)
+
+
+def read_on(steps, reached):
+    """What is reached with one letter more.
+
+    reached has, for each pair that is reached, a tuple (lack, text): the losses
+    less the gains that are the least ones of a way to it, and the first of the
+    texts, all of the same length, that have a way with them.
+    """
+    further = {}
+    for pair, letter, ahead, gain, loss in steps:
+        if pair in reached:
+            lack, text = reached[pair]
+            keep_least(further, ahead, (lack + loss - gain, text + letter))
+    return further

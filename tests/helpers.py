@@ -176,6 +176,101 @@ TWO_LETTERS = lists_over("ab", ("aa", "ab", "ba", "aab", "abb", "bab", "abba"), 
 THREE_LETTERS = lists_over("abc", ("ab", "bc", "cab", "bca", "abca", "cc"), (1, 2))
 
 
+def common(first, second):
+    """The common letters, in alphabetical order."""
+    return "".join(sorted({word for word, _ in first if len(word) == 1} & {word for word, _ in second}))
+
+
+def common_texts(first, second, most):
+    """All common texts of at most so many letters, in order by length."""
+    return ["".join(row) for many in range(most + 1) for row in product(common(first, second), repeat=many)]
+
+
+def slow_difference(first, second, text):
+    """What the longest match of the text costs more by the first list than by the second one."""
+    return cost(first, greedy(first, text)) - cost(second, greedy(second, text))
+
+
+def both_after(first, second, pair, letters):
+    """What both readers hold after the letters, and what the letters gain, letter by letter."""
+    given, one = read_slowly(first, pair[0], letters)
+    given_by_other, other = read_slowly(second, pair[1], letters)
+    return (one, other), cost(first, given) - cost(second, given_by_other)
+
+
+def slow_befores(first, second):
+    """For each pair that common texts lead to, the first text that leads to it, by length and alphabet."""
+    befores, texts = {}, [""]
+    while texts:
+        longer = []
+        for text in by_length(texts):
+            pair, _ = both_after(first, second, ("", ""), text)
+            if pair not in befores:
+                befores[pair] = text
+                longer += [text + letter for letter in common(first, second)]
+        texts = longer
+    return befores
+
+
+def slow_growing(first, second):
+    """The round that point 104 tells, from all walks of so many letters from all pairs, or None up to 12 letters."""
+    befores = slow_befores(first, second)
+    walks = {(start, ""): (start, 0) for start in befores}
+    for _ in range(12):
+        longer = {}
+        for (start, cycle), (pair, gained) in walks.items():
+            for letter in common(first, second):
+                ahead, gain = both_after(first, second, pair, letter)
+                longer[start, cycle + letter] = (ahead, gained + gain)
+        walks = longer
+        found = [
+            (-gained, cycle, len(befores[start]), befores[start])
+            for (start, cycle), (pair, gained) in walks.items() if pair == start and gained > 0
+        ]
+        if found:
+            _, cycle, _, before = min(found)
+            return before, cycle
+    return None
+
+
+# Two lists whose differences have a greatest one, with the number of letters of its first text.
+WITH_GREATEST = (
+    (0, (("a", 3),), (("a", 3), ("aa", 8))),
+    (0, (("a", 2), ("b", 2), ("bc", 9), ("c", 1)), (("a", 9), ("b", 9), ("c", 8))),
+    (1, (("a", 9), ("aa", 8)), (("a", 7),)),
+    (1, (("a", 1), ("b", 6), ("bb", 1), ("c", 1)), (("a", 4), ("b", 5), ("c", 8))),
+    (2, (("a", 6), ("b", 6), ("bc", 6), ("c", 2)), (("a", 9), ("b", 7), ("c", 3), ("cb", 6))),
+    (3, (("a", 1), ("aab", 5), ("b", 5), ("c", 7)), (("a", 1), ("aba", 6), ("b", 6), ("c", 8))),
+    (4, (("a", 1), ("abb", 1), ("b", 1)), (("a", 3), ("b", 1), ("baab", 3))),
+    (5, (("a", 2), ("abb", 6), ("b", 1)), (("a", 5), ("b", 1), ("baa", 6), ("bbaa", 9))),
+    (5, (("a", 5), ("aa", 4)), (("a", 1), ("aaa", 6))),
+    (6, (("a", 1), ("aaba", 5), ("b", 1), ("baa", 1)), (("a", 4), ("aab", 1), ("b", 6))),
+    (7, (("a", 2), ("ab", 1), ("b", 1), ("bba", 4), ("bbab", 1)),
+     (("a", 5), ("b", 1), ("bab", 3), ("babb", 2), ("bba", 3))),
+    (8, (("a", 2), ("aab", 2), ("aba", 9), ("b", 1)), (("a", 8), ("abba", 9), ("b", 5), ("baaa", 6))),
+    (10, (("a", 1), ("ab", 1), ("b", 9), ("bb", 9), ("bba", 4), ("bbbb", 5)),
+     (("a", 6), ("b", 9), ("ba", 7), ("baba", 6), ("bb", 8))),
+    (11, (("a", 7), ("aaaa", 8)), (("a", 1), ("aaa", 6))),
+    # Here two pairs have it with equally many letters.
+    (2, (("a", 3), ("aaa", 4), ("ab", 1), ("b", 3), ("baa", 3), ("bb", 2)),
+     (("a", 2), ("ab", 4), ("b", 2), ("bbab", 4))),
+    (4, (("a", 2), ("aaaa", 1), ("aab", 1), ("b", 1), ("bba", 2)), (("a", 4), ("abaa", 4), ("b", 2), ("baaa", 4))),
+)
+TWO_LISTS = (
+    (DEAR, (("a", 1),)), ((("a", 1),), DEAR), (DEAR, DEAR), (DOC, ENDS), (ENDS, DOC), (DOC, DOC[:1] + DOC[2:]),
+    (DOC[:1] + DOC[2:], DOC), (SMALL, ONE), (ONE, SMALL), (ALL_AS, AAA), (AAA, ALL_AS), (EIGHT, LONG), (LONG, EIGHT),
+    (MIXED, DOC), (DOC, MIXED), (SMALL, DOC), (LETTERS_ONLY, MIXED), (MIXED, LETTERS_ONLY), (EIGHT, EIGHT),
+    (LETTERS_ONLY, (("f", 3), ("fz", 1), ("z", 2))),
+    # The first round that grows has 4 letters behind 9, and 12 letters.
+    ((("a", 1), ("aaa", 6), ("aba", 4), ("b", 1), ("babb", 4), ("bbab", 1)),
+     (("a", 7), ("abba", 8), ("b", 1), ("baab", 3), ("babb", 3), ("bb", 3), ("bbba", 1), ("bbbb", 8))),
+    ((("a", 6), ("ab", 3), ("abbb", 1), ("b", 1), ("baa", 8), ("babb", 7), ("bbb", 1)),
+     (("a", 9), ("b", 1), ("bbbb", 1))),
+    *[(one, other) for _, one, other in WITH_GREATEST], *[(other, one) for _, one, other in WITH_GREATEST],
+    *zip(TWO_LETTERS, TWO_LETTERS[7:]), *zip(THREE_LETTERS[::2], TWO_LETTERS), *zip(THREE_LETTERS, THREE_LETTERS[5:]),
+)
+
+
 def told_name(case, function, arguments):
     """The name that the BadValue tells which the call raises."""
     with case.assertRaises(CutError) as caught:

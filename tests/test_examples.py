@@ -1,18 +1,21 @@
-"""The examples of the document, to the letter, and those of points 20, 31, 43, 54, 64, 74, 84 and 98."""
+"""The examples of the document, to the letter, and those of points 20, 31, 43, 54, 64, 74, 84, 98, 109 and 118."""
 
 import doctest
 import unittest
 
-from greedycuts.costs import count_cheapest, first_cheapest
+from greedycuts.comparing import difference
+from greedycuts.costs import count_cheapest, first_cheapest, least_cost
 from greedycuts.cuts import count_cuts, nth_cut
 from greedycuts.errors import BadValue
 from greedycuts.leaving import change
-from greedycuts.lists import without_word
-from greedycuts.longest import longest_match, match_from_end
+from greedycuts.lengths import greatest_waste
+from greedycuts.lists import with_word, without_word
+from greedycuts.longest import longest_match, match_costs, match_from_end
 from greedycuts.matches import free_indexes, occurrences
 from greedycuts.optimality import always_best, always_best_from_end, wasteful
 from greedycuts.reader import after
 from greedycuts.rounds import round_sums
+from greedycuts.smallest import change as change_of_rows
 
 LISTS_AND_MATCHES = """
 >>> from greedycuts.lists import beginnings_of, cost_of_word, letters_of, reversed_list, with_word, without_word
@@ -150,6 +153,37 @@ True
 ((3, 2), True)
 """
 
+TWO_LISTS = """
+>>> from greedycuts.bounding import accepts_bound, growth, potentials_for
+>>> from greedycuts.comparing import changed_words, common_letters, difference, first_different, greatest_difference
+>>> one, other = (("a", 1), ("aa", 9)), (("a", 1),)
+>>> difference(one, other, "aaa"), greatest_difference(one, other), growth(one, other, "", "aa")
+(7, ('grows', '', 'aa'), 7)
+>>> greatest_difference(other, one), potentials_for(other, one)
+(('greatest', 0, ''), (('', '', 0), ('', 'a', 1)))
+>>> accepts_bound(other, one, 0, (("", "", 0), ("", "a", 1))), accepts_bound(other, one, 0, (("", "", 0), ("", "a", 2)))
+(True, False)
+>>> changed_words(one, other), first_different(other, one), potentials_for(one, other) is None
+(['aa'], 'aa', True)
+>>> more = (("a", 1), ("ab", 1), ("b", 1), ("bcd", 1), ("c", 1), ("d", 1))
+>>> fewer = (("a", 1), ("b", 1), ("bcd", 1), ("c", 1), ("d", 1))
+>>> common_letters(more, fewer), difference(more, fewer, "abcd"), greatest_difference(more, fewer)
+('abcd', 1, ('grows', '', 'abcd'))
+"""
+
+LENGTHS = """
+>>> from greedycuts.lengths import accepts_by_letters, greatest_cost, greatest_waste, potentials_by_letters, worst_text
+>>> dear = (("a", 1), ("aa", 9))
+>>> [greatest_waste(dear, many) for many in (0, 1, 2, 3, 4)], worst_text(dear, 3)
+([0, 0, 7, 7, 14], 'aaa')
+>>> [greatest_cost(dear, budget) for budget in (0, 1, 2, 3)]
+[0, 1, 9, 10]
+>>> potentials_by_letters(dear, 1)
+((('', '', 0),), (('a', '', -1), ('a', 'a', 0)))
+>>> accepts_by_letters(dear, 1, 0, potentials_by_letters(dear, 1)), accepts_by_letters(dear, 2, 6, potentials_by_letters(dear, 2))
+(True, False)
+"""
+
 
 class Examples(unittest.TestCase):
     def run_text(self, name, text):
@@ -231,6 +265,30 @@ class Examples(unittest.TestCase):
         self.assertEqual(round_sums(dear, ("", "aa", "", ("a", "a"))), (9, 2))
         words = (("a", 1), ("ab", 1), ("b", 1), ("bcd", 1), ("c", 1), ("d", 1))
         self.assertEqual(round_sums(words, ("", "abcd", "", ("a", "bcd"))), (3, 2))
+
+    def test_two_lists(self):
+        self.run_text("two lists", TWO_LISTS)
+
+    def test_point_109(self):
+        words = (("a", 1), ("b", 1), ("bcd", 1), ("c", 1), ("d", 1))
+        self.assertEqual(match_costs(words, "abcd")[0], 2)
+        more = with_word(words, "ab", 1)
+        self.assertEqual(longest_match(more, "abcd"), ("ab", "c", "d"))
+        self.assertEqual(difference(more, words, "abcd"), 1)
+
+    def test_lengths(self):
+        self.run_text("lengths", LENGTHS)
+
+    def test_point_118(self):
+        dear = (("a", 1), ("aa", 9))
+        self.assertEqual((match_costs(dear, "aaaa")[0], least_cost(dear, "aaaa")), (18, 4))
+        self.assertEqual(greatest_waste(dear, 4), 14)
+        words = (("a", 1), ("ab", 1), ("b", 1), ("bcd", 1), ("c", 1), ("d", 1))
+        self.assertEqual([greatest_waste(words, many) for many in range(5)], [0, 0, 0, 0, 1])
+
+    def test_changes(self):
+        self.assertEqual(change_of_rows(("ab", "c", "d"), ("ab", "d")), (1, 1, ()))
+        self.assertEqual(change_of_rows(("a", "a"), ("a", "a", "a")), (2, 0, ("a",)))
 
 
 if __name__ == "__main__":

@@ -57,6 +57,19 @@ FUNCTIONS = {
         "worst_ratio": "words", "worst_excess": "words", "is_bound": "words a b c", "answer_for": "words",
         "accepts_answer": "words value",
     },
+    "comparing": {
+        "common_letters": "first second", "difference": "first second text", "greatest_difference": "first second",
+        "first_different": "first second", "changed_words": "first second",
+    },
+    "bounding": {
+        "potentials_for": "first second", "accepts_bound": "first second bound table",
+        "growth": "first second before cycle",
+    },
+    "lengths": {
+        "greatest_waste": "words many", "worst_text": "words many", "potentials_by_letters": "words many",
+        "accepts_by_letters": "words many bound table", "greatest_cost": "words budget", "text_within": "words budget",
+    },
+    "smallest": {"change": "old new"},
 }
 CLASSES = {"reader": {"Reader": {"__init__": "self words", "read": "self piece", "held": "self", "finish": "self"}}}
 ERRORS = {"CutError": None, "BadValue": "name", "TooLarge": "what", "NotPossible": "why", "TextError": "column words"}
