@@ -4,9 +4,10 @@ Nothing here is taken from the package but the errors: the results that the
 tests compare with come from listing all cuts.
 """
 
+import re
 from itertools import product
 
-from greedycuts.errors import BadValue, CutError
+from greedycuts.errors import BadValue, CutError, TextError
 
 DOC = (("a", 1), ("ab", 1), ("b", 1), ("bcd", 1), ("c", 1), ("d", 1))
 SMALL = (("a", 1), ("ab", 1), ("b", 2))
@@ -269,6 +270,133 @@ TWO_LISTS = (
     *[(one, other) for _, one, other in WITH_GREATEST], *[(other, one) for _, one, other in WITH_GREATEST],
     *zip(TWO_LETTERS, TWO_LETTERS[7:]), *zip(THREE_LETTERS[::2], TWO_LETTERS), *zip(THREE_LETTERS, THREE_LETTERS[5:]),
 )
+
+
+def slow_change(old, new):
+    """The change from one row to another one, by the words of point 119."""
+    start = max(many for many in range(len(old) + 1) if old[:many] == new[:many])
+    behind, behind_new = old[start:], new[start:]
+    alike = max(
+        many for many in range(min(len(behind), len(behind_new)) + 1)
+        if behind[len(behind) - many:] == behind_new[len(behind_new) - many:]
+    )
+    return start, len(behind) - alike, behind_new[:len(behind_new) - alike]
+
+
+def right_form(words, text, command):
+    """Whether the value is a command of a right form, by the words of points 121 and 122."""
+    def is_index(value, low=0):
+        return value.__class__ is int and low <= value <= len(text)
+
+    def is_letters(value):
+        return isinstance(value, str) and len(value) <= 30 and set(value) <= {word for word, _ in words}
+
+    if not isinstance(command, tuple):
+        return False
+    match command:
+        case ("insert", index, letters):
+            return is_index(index) and is_letters(letters)
+        case ("remove", start, end):
+            return is_index(start) and is_index(end, start)
+        case ("replace", start, end, letters):
+            return is_index(start) and is_index(end, start) and is_letters(letters)
+        case ("add", word, price):
+            lower = isinstance(word, str) and 1 <= len(word) <= 4 and all("a" <= letter <= "z" for letter in word)
+            return lower and price.__class__ is int and 1 <= price <= 9
+        case ("drop", word):
+            return isinstance(word, str)
+    return False
+
+
+def slow_obstacle(words, text, command):
+    """The word of point 122 for a command of a right form, or None if it is possible."""
+    spelled = [word for word, _ in words]
+    match command:
+        case ("insert", _, letters):
+            return "long" if len(text) + len(letters) > 30 else None
+        case ("replace", start, end, letters):
+            return "long" if len(text) - (end - start) + len(letters) > 30 else None
+        case ("add", word, _):
+            reasons = (
+                ("known", word in spelled),
+                ("letters", len(word) > 1 and not set(word) <= set(spelled)),
+                ("full", len(spelled) == 8),
+            )
+        case ("drop", word):
+            others = [other for other in spelled if other != word]
+            reasons = (
+                ("unknown", word not in spelled),
+                ("needed", not others or len(word) == 1 and (word in text or any(word in other for other in others))),
+            )
+        case _:
+            reasons = ()
+    return next((why for why, applies in reasons if applies), None)
+
+
+def slow_after(words, text, command):
+    """The list and the text after a command that is possible."""
+    letters = list(text)
+    entries = dict(words)
+    match command:
+        case ("insert", index, some):
+            letters[index:index] = some
+        case ("remove", start, end):
+            del letters[start:end]
+        case ("replace", start, end, some):
+            letters[start:end] = some
+        case ("add", word, price):
+            entries[word] = price
+        case ("drop", word):
+            del entries[word]
+    return tuple(sorted(entries.items())), "".join(letters)
+
+
+def commands_for(words, text):
+    """Commands of right forms of all kinds for the list and the text, possible ones and others."""
+    some = texts_of(words, 2)
+    spans = [(start, end) for end in range(len(text) + 1) for start in range(end + 1)]
+    found = [("insert", index, letters) for index in range(len(text) + 1) for letters in some]
+    found += [("remove", start, end) for start, end in spans]
+    found += [("replace", start, end, letters) for start, end in spans for letters in some]
+    spelled = [word for word, _ in words]
+    others = ["a", "b", "c", "x", "ab", "ba", "ax", "bab", "abba", "xyz"]
+    found += [("add", word, price) for word in [*spelled, *others] for price in (1, 9)]
+    return found + [("drop", word) for word in [*spelled, *others, "", "A", "abcde"]]
+
+
+# What is no text of a word list or of a cut.
+BAD_LINES = (
+    None, True, False, 0, 1, 1.5, b"", b"a", [], ["a"], (), ("a",), {}, {"a"}, "\n", "a\n", "\na", "a\nb", " \n ",
+    "a" * 201, " " * 201, "A" * 1000, "\n" * 200,
+)
+
+
+def plain_scan(text):
+    """The tokens of a text, or the problem, a pair of a column and its words."""
+    tokens = []
+    for found in re.finditer("[a-z]+|[0-9]+|[:|]| +|.", text, re.DOTALL):
+        part, column = found.group(), found.start() + 1
+        if part[0] in "abcdefghijklmnopqrstuvwxyz":
+            if len(part) > 4:
+                return column, "a word has at most 4 letters"
+            tokens.append(("word", part, column))
+        elif part[0] in "0123456789":
+            if len(part) > 6:
+                return column, "a number has at most 6 digits"
+            tokens.append(("number", part, column))
+        elif part in (":", "|"):
+            tokens.append(("sign", part, column))
+        elif part[0] != " ":
+            return column, "no token begins here"
+    return [*tokens, ("end", "", len(text) + 1)]
+
+
+def told_problem(case, function, *arguments):
+    """The column and the words of the TextError that the call raises."""
+    with case.assertRaises(CutError) as caught:
+        function(*arguments)
+    case.assertIs(caught.exception.__class__, TextError, (function.__name__, arguments))
+    return caught.exception.column, caught.exception.words
 
 
 def told_name(case, function, arguments):

@@ -1,4 +1,4 @@
-"""The examples of the document, to the letter, and those of points 20, 31, 43, 54, 64, 74, 84, 98, 109 and 118."""
+"""The examples of the document, to the letter, and those of the points that tell one (20, 31, 43 and so on)."""
 
 import doctest
 import unittest
@@ -6,7 +6,8 @@ import unittest
 from greedycuts.comparing import difference
 from greedycuts.costs import count_cheapest, first_cheapest, least_cost
 from greedycuts.cuts import count_cuts, nth_cut
-from greedycuts.errors import BadValue
+from greedycuts.desk import Desk
+from greedycuts.errors import BadValue, TextError
 from greedycuts.leaving import change
 from greedycuts.lengths import greatest_waste
 from greedycuts.lists import with_word, without_word
@@ -14,8 +15,8 @@ from greedycuts.longest import longest_match, match_costs, match_from_end
 from greedycuts.matches import free_indexes, occurrences
 from greedycuts.optimality import always_best, always_best_from_end, wasteful
 from greedycuts.reader import after
+from greedycuts.reading import read_words
 from greedycuts.rounds import round_sums
-from greedycuts.smallest import change as change_of_rows
 
 LISTS_AND_MATCHES = """
 >>> from greedycuts.lists import beginnings_of, cost_of_word, letters_of, reversed_list, with_word, without_word
@@ -184,6 +185,40 @@ LENGTHS = """
 (True, False)
 """
 
+DESK = """
+>>> from greedycuts.desk import Desk
+>>> from greedycuts.journals import are_right, replayed
+>>> from greedycuts.smallest import change
+>>> change(("ab", "c", "d"), ("ab", "d")), change(("a", "a"), ("a", "a", "a"))
+((1, 1, ()), (2, 0, ('a',)))
+>>> words = (("a", 1), ("ab", 1), ("b", 1), ("bcd", 1), ("c", 1), ("d", 1))
+>>> desk = Desk(words, "abc")
+>>> desk.do(("insert", 3, "d")), desk.row(), desk.cost(), desk.least()
+((2, 0, ('d',)), ('ab', 'c', 'd'), 3, 2)
+>>> desk.do(("drop", "ab")), desk.row(), desk.word_at(2)
+((0, 3, ('a', 'bcd')), ('a', 'bcd'), 1)
+>>> desk.do(("remove", 0, 1)), desk.undo(), desk.text()
+((0, 1, ()), ('remove', 0, 1), 'abcd')
+>>> are_right(words, "abc", desk.records()), are_right(words, "abc", ((("insert", 3, "d"), ("a", "bcd")),))
+(True, False)
+>>> replayed(words, "abc", desk.journal()).row()
+('a', 'bcd')
+"""
+
+TEXTS = """
+>>> from greedycuts.reading import next_tokens, read_cut, read_words
+>>> from greedycuts.writing import cut_text, words_text
+>>> words = read_words("ab:3 a b:2")
+>>> words
+(('a', 1), ('ab', 3), ('b', 2))
+>>> words_text(words)
+'a ab:3 b:2'
+>>> read_cut(words, "ab | a|b"), cut_text(words, ("ab", "a", "b"))
+(('ab', 'a', 'b'), 'ab|a|b')
+>>> next_tokens("a", "words"), next_tokens("a", "cut")
+(['a word', '":"', 'the end'], ['"|"', 'the end'])
+"""
+
 
 class Examples(unittest.TestCase):
     def run_text(self, name, text):
@@ -286,9 +321,28 @@ class Examples(unittest.TestCase):
         words = (("a", 1), ("ab", 1), ("b", 1), ("bcd", 1), ("c", 1), ("d", 1))
         self.assertEqual([greatest_waste(words, many) for many in range(5)], [0, 0, 0, 0, 1])
 
-    def test_changes(self):
-        self.assertEqual(change_of_rows(("ab", "c", "d"), ("ab", "d")), (1, 1, ()))
-        self.assertEqual(change_of_rows(("a", "a"), ("a", "a", "a")), (2, 0, ("a",)))
+    def test_desk(self):
+        self.run_text("desk", DESK)
+
+    def test_point_129(self):
+        words = (("a", 1), ("ab", 1), ("b", 1), ("bcd", 1), ("c", 1), ("d", 1))
+        desk = Desk(words, "abc")
+        self.assertEqual(desk.row(), ("ab", "c"))
+        start, removed, inserted = desk.do(("insert", 3, "d"))
+        self.assertEqual((start, removed, inserted), (2, 0, ("d",)))
+        desk.do(("remove", 0, 1))
+        self.assertEqual(desk.row(), ("bcd",))
+
+    def test_texts(self):
+        self.run_text("texts", TEXTS)
+
+    def test_text_with_a_problem(self):
+        with self.assertRaises(TextError) as caught:
+            read_words("ab a ac:0")
+        self.assertEqual((caught.exception.column, caught.exception.words), (9, "a cost is from 1 to 9"))
+
+    def test_point_140(self):
+        self.assertEqual(read_words("ab:3 a b:2"), (("a", 1), ("ab", 3), ("b", 2)))
 
 
 if __name__ == "__main__":

@@ -70,8 +70,21 @@ FUNCTIONS = {
         "accepts_by_letters": "words many bound table", "greatest_cost": "words budget", "text_within": "words budget",
     },
     "smallest": {"change": "old new"},
+    "journals": {"replayed": "words text journal", "are_right": "words text records"},
+    "scanning": {"scan": "text"},
+    "reading": {"next_tokens": "text kind", "read_words": "text", "read_cut": "words text"},
+    "writing": {"words_text": "words", "cut_text": "words cut"},
 }
-CLASSES = {"reader": {"Reader": {"__init__": "self words", "read": "self piece", "held": "self", "finish": "self"}}}
+CLASSES = {
+    "reader": {"Reader": {"__init__": "self words", "read": "self piece", "held": "self", "finish": "self"}},
+    "desk": {
+        "Desk": {
+            "__init__": "self words text", "do": "self command", "undo": "self", "words": "self", "text": "self",
+            "row": "self", "cost": "self", "least": "self", "word_at": "self index", "journal": "self",
+            "records": "self",
+        },
+    },
+}
 ERRORS = {"CutError": None, "BadValue": "name", "TooLarge": "what", "NotPossible": "why", "TextError": "column words"}
 
 

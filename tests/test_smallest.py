@@ -6,7 +6,7 @@ from itertools import product
 from greedycuts.longest import longest_match
 from greedycuts.smallest import change
 from tests import helpers
-from tests.helpers import DOC, EIGHT, check_errors, check_kind, check_pure
+from tests.helpers import DOC, EIGHT, check_errors, check_kind, check_pure, slow_change
 
 ROWS = [row for many in range(6) for row in product(("a", "b"), repeat=many)]
 NO_ROWS = (
@@ -19,17 +19,6 @@ NO_ROWS = (
 def replaced(row, start, removed, inserted):
     """The row with some strings replaced."""
     return (*row[:start], *inserted, *row[start + removed:])
-
-
-def slow_change(old, new):
-    """The change, by the words of point 119."""
-    start = max(many for many in range(len(old) + 1) if old[:many] == new[:many])
-    behind, behind_new = old[start:], new[start:]
-    alike = max(
-        many for many in range(min(len(behind), len(behind_new)) + 1)
-        if behind[len(behind) - many:] == behind_new[len(behind_new) - many:]
-    )
-    return start, len(behind) - alike, behind_new[:len(behind_new) - alike]
 
 
 class Changes(unittest.TestCase):
